@@ -1,12 +1,17 @@
 """The calls on a world that has begun: each gives back the numbers that it answers."""
 
+from policyturn.faring import enter, hop
 from policyturn.handing import hand_over
 from policyturn.messages import DROP, FLIP, HELLO, ROW, Message
+from policyturn.rules import ALL_SWITCHES, is_key
+from policyturn.telling import tell
 from policyturn.world import Switch
+
+ENTER = 11
+HOP = 12
 
 # 2^62
 LAST_TIME = 4611686018427387904
-LAST_KEY = 65535
 MOST_RULE_NUMBERS = 64
 MOST_FLOW = 5000
 
@@ -16,9 +21,9 @@ def begin_is_right(n, cap, life, room):
 
 
 def rule_is_right(world, rule):
-    if rule[0] != -1 and not world.has_switch(rule[0]):
+    if rule[0] != ALL_SWITCHES and not world.has_switch(rule[0]):
         return False
-    return 0 <= rule[1] <= rule[2] <= LAST_KEY and 0 <= rule[3] <= 1
+    return is_key(rule[1]) and is_key(rule[2]) and rule[1] <= rule[2] and 0 <= rule[3] <= 1
 
 
 def cut_in_rules(numbers):
@@ -154,10 +159,19 @@ def send_hello(world, x):
     world.send(Message(HELLO, x, world.switches[x].start))
 
 
-CALLS = {1: publish, 2: work, 3: tick, 4: deliver, 5: lose, 6: double, 7: flow, 8: restart, 9: hello}
+def crash(world, given):
+    world.controller.forget()
+    return [0]
+
+
+CALLS = {1: publish, 2: work, 3: tick, 4: deliver, 5: lose, 6: double, 7: flow, 8: restart, 9: hello, 10: crash}
 
 
 def answer_call(world, number, given):
-    if number not in CALLS:
-        raise NotImplementedError(f"call {number}")
-    return CALLS[number](world, given)
+    if number in CALLS:
+        return CALLS[number](world, given)
+    if number == ENTER:
+        return enter(world, given)
+    if number == HOP:
+        return hop(world, given)
+    return tell(world, number, given)

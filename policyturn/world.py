@@ -9,6 +9,9 @@ class Part:
     def is_whole(self):
         return len(self.came) == self.total
 
+    def rules_by_place(self):
+        return [self.came[place] for place in sorted(self.came)]
+
 
 class Switch:
     def __init__(self, start):
@@ -35,7 +38,13 @@ class Controller:
         self.pending = False
         self.retired = []
         self.starts = starts
-        self.memories = [Memory() for start in starts]
+        self.forget()
+
+    def forget(self):
+        self.memories = [Memory() for start in self.starts]
+
+    def has_published(self, version):
+        return 1 <= version <= len(self.published)
 
     def rules_of(self, version):
         return self.published[version - 1]
@@ -64,6 +73,15 @@ class Controller:
         return self.in_force
 
 
+class Packet:
+    def __init__(self, key, route, stamp, time):
+        self.key = key
+        self.route = route
+        self.passed = 0
+        self.stamp = stamp
+        self.time = time
+
+
 class World:
     def __init__(self, n, cap, life, room):
         self.cap = cap
@@ -76,13 +94,18 @@ class World:
         self.bag = []
         self.lost = 0
         self.packets = []
-        self.counts = [0, 0, 0, 0, 0, 0]
+        self.entered = 0
+        self.delivered = 0
+        self.dropped_for = {1: 0, 2: 0, 3: 0, 4: 0}
 
     def has_switch(self, x):
         return 0 <= x < len(self.switches)
 
     def bag_is_full(self):
         return len(self.bag) >= self.cap
+
+    def room_is_full(self):
+        return len(self.packets) >= self.room
 
     def send(self, message):
         if self.bag_is_full():

@@ -1,10 +1,10 @@
 """Builds lines of calls, asks them, and shows what there is behind them.
 
-The calls that tell a switch, what the controller knows, the bag and the counts are not there yet:
-switch_of, knows_of, controller_of, bag_of and counts_of read the same numbers, in the same order,
-from the objects that keep them.
+told tells it through answers alone. world_after keeps the object that a line of calls leaves, so that a message can be
+handed over that no line brings about; switch_of, knows_of, controller_of, bag_of and counts_of ask that object.
 """
 
+from policyturn.answering import answer_call
 from policyturn.messages import DROP, FLIP, GONE, HAVE, HELLO, ROW, TURNED, Message
 from policyturn.reading import read_calls
 from policyturn.rollout import Session, answers
@@ -60,13 +60,58 @@ def hello(x):
     return [9, x]
 
 
+def crash():
+    return [10]
+
+
+def enter(key, *route):
+    return [11, key, len(route)] + list(route)
+
+
+def hop(k=0):
+    return [12, k]
+
+
+def policy(v, x, key):
+    return [13, v, x, key]
+
+
+def switch(x):
+    return [14, x]
+
+
+def knows(x):
+    return [15, x]
+
+
+def controller():
+    return [16]
+
+
+def bag():
+    return [17]
+
+
+def packets():
+    return [18]
+
+
+def counts():
+    return [19]
+
+
 def turn():
     """The calls that roll a published version out on a net that loses nothing."""
     return [work(), flow(), work(), flow()]
 
 
 def line(calls):
-    return [number for call in calls for number in call]
+    """The list to hand in, held to what the document says of a line."""
+    numbers = [number for call in calls for number in call]
+    assert 1 <= len(calls) <= 400, len(calls)
+    assert len(numbers) <= 16000, len(numbers)
+    assert calls.count(bag()) <= 15 and calls.count(packets()) <= 60
+    return numbers
 
 
 def ask(calls):
@@ -89,6 +134,41 @@ def last(calls):
     return ask(calls)[-1]
 
 
+def tells(n):
+    """The calls that tell all there is with n switches, by name."""
+    named = {f"switch {x}": switch(x) for x in range(n)}
+    named.update({f"knows {x}": knows(x) for x in range(n)})
+    named.update({"controller": controller(), "bag": bag(), "packets": packets(), "counts": counts()})
+    return named
+
+
+def told(calls):
+    """What the calls 14 to 19 tell after these calls, by name."""
+    begun = [call for call, answer in zip(calls, ask(calls)) if call[0] == 0 and answer == [0]]
+    named = tells(begun[-1][1])
+    return dict(zip(named, ask(calls + list(named.values()))[len(calls):]))
+
+
+def cut_in_messages(size, numbers):
+    """The numbers that bag tells, cut apart: a row has its rule where its total isn't 0."""
+    cut = []
+    at = 0
+    while at < len(numbers):
+        width = {ROW: 6, HELLO: 3}.get(numbers[at], 4)
+        if numbers[at] == ROW and numbers[at + 5] != 0:
+            width += 4
+        cut.append(numbers[at:at + width])
+        at += width
+    assert at == len(numbers) and len(cut) == size, numbers
+    return cut
+
+
+def messages_after(calls):
+    answer = last(calls + [bag()])
+    assert answer[0] == 0, answer
+    return cut_in_messages(answer[1], answer[2:])
+
+
 def bag_size(calls):
     """How many messages are in the bag after these calls, as answers tells it: flow can't be asked, it fills it."""
     return ask(list(calls) + [lose(0)] * (399 - len(calls)))[len(calls):].count([0])
@@ -101,50 +181,36 @@ def world_after(calls):
     return session.world
 
 
-def message_numbers(message):
-    numbers = [message.kind, message.x, message.start]
-    if message.kind == ROW:
-        numbers += [message.version, message.place, message.total]
-        numbers += list(message.rule) if message.rule is not None else []
-    elif message.kind != HELLO:
-        numbers.append(message.version)
-    return numbers
-
-
-def bag_of(world):
-    return [message_numbers(message) for message in world.bag]
+def asked(world, call):
+    answer = answer_call(world, call[0], call[1:])
+    assert answer[0] == 0, answer
+    return answer[1:]
 
 
 def switch_of(world, x):
-    switch = world.switches[x]
-    told = [switch.start, switch.current, switch.floor, len(switch.parts)]
-    for version in sorted(switch.parts):
-        part = switch.parts[version]
-        told += [version, part.total, len(part.came)]
-    return told
+    return asked(world, switch(x))
 
 
 def knows_of(world, x):
-    memory = world.controller.memories[x]
-    have = sorted(memory.have)
-    gone = sorted(memory.gone)
-    return [world.controller.starts[x], memory.turned, len(have)] + have + [len(gone)] + gone
+    return asked(world, knows(x))
 
 
 def controller_of(world):
-    controller = world.controller
-    told = [controller.in_force, int(controller.pending), controller.target(), len(controller.retired)]
-    for version, time in controller.retired:
-        told += [version, time]
-    return told
+    return asked(world, controller())
 
 
 def counts_of(world):
-    return [world.now, world.lost] + world.counts
+    return asked(world, counts())
+
+
+def bag_of(world):
+    numbers = asked(world, bag())
+    return cut_in_messages(numbers[0], numbers[1:])
 
 
 def all_of(world):
-    """Everything that is kept, in one value that two worlds can be compared by."""
+    """Everything that is kept, in one value that two worlds can be compared by: no call tells its first entry, nor
+    the rules themselves."""
     if world is None:
         return None
     places = range(len(world.switches))
@@ -155,7 +221,7 @@ def all_of(world):
         [knows_of(world, x) for x in places],
         [controller_of(world), [list(rules) for rules in world.controller.published]],
         bag_of(world),
-        list(world.packets),
+        asked(world, packets()),
     ]
 
 

@@ -63,6 +63,62 @@ class Files(unittest.TestCase):
         for path in FILES:
             found = set(re.findall(r"[A-Za-z_0-9]+", path.read_text())) & FORBIDDEN_WORDS
             self.assertEqual(found, set(), path)
+            self.assertNotRegex(path.read_text(), "dataclass|overload|contextmanager")
+
+
+class Tops(unittest.TestCase):
+    def test_what_stands_at_a_files_top(self):
+        for path in FILES:
+            tree = ast.parse(path.read_text())
+            self.assertIsNotNone(ast.get_docstring(tree), path)
+            defined = set()
+            bound = []
+            for node in tree.body[1:]:
+                self.assertIsInstance(node, (ast.ImportFrom, ast.FunctionDef, ast.ClassDef, ast.Assign), path)
+                if isinstance(node, ast.FunctionDef):
+                    defined.add(node.name)
+                if isinstance(node, ast.Assign):
+                    self.assert_plain(node.value, defined, path)
+                    bound.append(node.targets[0].id)
+                elif isinstance(node, ast.ImportFrom):
+                    bound += [alias.name for alias in node.names]
+                else:
+                    bound.append(node.name)
+            self.assertEqual(sorted(bound), sorted(set(bound)), path)
+
+    def assert_plain(self, value, defined, path):
+        for node in ast.walk(value):
+            if isinstance(node, ast.Name):
+                self.assertIn(node.id, defined, path)
+            elif node is not value:
+                self.assertIsInstance(node, (ast.Constant, ast.Tuple, ast.UnaryOp, ast.USub, ast.Load), path)
+
+    def test_a_list_or_dict_there_is_only_read(self):
+        for path in FILES:
+            tree = ast.parse(path.read_text())
+            kept = {node.targets[0].id for node in tree.body
+                    if isinstance(node, ast.Assign) and isinstance(node.value, (ast.Dict, ast.List))}
+            read = set()
+            for node in ast.walk(tree):
+                if isinstance(node, ast.Subscript) and isinstance(node.ctx, ast.Load):
+                    read.add(node.value)
+                elif isinstance(node, ast.Compare) and isinstance(node.ops[0], (ast.In, ast.NotIn)):
+                    read.add(node.comparators[0])
+            for node in ast.walk(tree):
+                if isinstance(node, ast.Name) and node.id in kept and isinstance(node.ctx, ast.Load):
+                    self.assertIn(node, read, (path, node.lineno))
+
+    def test_names_are_drawn_from_the_file_that_defines_them(self):
+        defined = {}
+        for path in FILES:
+            defined[path.stem] = {getattr(node, "name", None) or node.targets[0].id
+                                  for node in ast.parse(path.read_text()).body
+                                  if isinstance(node, (ast.FunctionDef, ast.ClassDef, ast.Assign))}
+        for name, node in nodes():
+            if isinstance(node, ast.ImportFrom):
+                for alias in node.names:
+                    self.assertIn(alias.name, defined[node.module.split(".")[1]], name)
+                    self.assertIsNone(alias.asname)
 
 
 class Nodes(unittest.TestCase):
@@ -83,6 +139,35 @@ class Nodes(unittest.TestCase):
             for node in ast.walk(tree):
                 if isinstance(node, ast.Expr) and node is not tree.body[0]:
                     self.assertIsInstance(node.value, ast.Call, (path, node.lineno))
+
+    def test_is_stands_beside_none_true_and_false(self):
+        for name, node in nodes():
+            if isinstance(node, ast.Compare) and isinstance(node.ops[0], (ast.Is, ast.IsNot)):
+                self.assertIsInstance(node.comparators[0], ast.Constant, (name, node.lineno))
+                self.assertIn(node.comparators[0].value, (None, True, False))
+
+    def test_texts_and_powers(self):
+        for name, node in nodes():
+            self.assertNotIsInstance(node, ast.Pow, name)
+            if isinstance(node, ast.Constant) and isinstance(node.value, str):
+                self.assertNotIn("%", node.value, name)
+
+    def test_what_a_loop_walks_is_not_changed_in_it(self):
+        changing = {"append", "clear", "extend", "insert", "pop", "remove", "reverse", "setdefault", "update"}
+        for name, loop in nodes():
+            if not isinstance(loop, ast.For):
+                continue
+            walked = ast.unparse(loop.iter)
+            for node in ast.walk(loop):
+                if isinstance(node, ast.Attribute) and node.attr in changing:
+                    self.assertNotEqual(ast.unparse(node.value), walked, (name, node.lineno))
+                if isinstance(node, ast.Subscript) and isinstance(node.ctx, ast.Store):
+                    self.assertNotEqual(ast.unparse(node.value), walked, (name, node.lineno))
+
+    def test_init_gives_back_nothing(self):
+        for name, node in nodes():
+            if isinstance(node, ast.FunctionDef) and node.name == "__init__":
+                self.assertFalse([part for part in ast.walk(node) if isinstance(part, ast.Return)], name)
 
     def test_functions(self):
         for name, node in nodes():

@@ -7,13 +7,6 @@ from tests.helper import (RULE, ask, begin, bag_of, controller_of, deliver, doub
 
 
 class Lines(unittest.TestCase):
-    def test_the_documents_example(self):
-        calls = [begin(2, 99, 10, 9), publish(RULE), work()]
-        self.assertEqual(ask(calls + [flow(9), work(), flow(9)]), [[0], [1], [0], [0, 4], [0], [0, 4]])
-        self.assertEqual(bag_of(world_after(calls)), [[0, 0, 1, 1, 0, 1] + RULE, [0, 1, 2, 1, 0, 1] + RULE])
-        self.assertEqual(controller_of(world_after(calls + [flow(9)])), [0, 1, 1, 0])
-        self.assertEqual(controller_of(world_after(calls + [flow(9), work(), flow(9)])), [1, 0, 1, 0])
-
     def test_a_second_version_over_a_first(self):
         calls = [begin(3, 99, 10), publish(RULE, RULE)] + turn() + [tick(4), publish(RULE)] + turn()
         # Two rows to each of three switches, one have of each; then one row and one have of each.
