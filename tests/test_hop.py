@@ -2,8 +2,10 @@
 
 import unittest
 
-from tests.helper import (GREATEST, LEAST, RULE, ask, begin, counts, crash, deliver, enter, flow, hop, last, packets,
-                          publish, restart, switch, tick, told, turn, work)
+from policyturn.answering import answer_call
+from policyturn.handing import hand_over
+from tests.helper import (GREATEST, LEAST, RULE, ask, begin, counts, crash, deliver, drop_message, enter, flow, hop,
+                          last, packets, publish, restart, switch, tick, told, turn, work, world_after)
 
 ALL = [-1, 0, 65535, 1]
 ONLY_4 = [-1, 4, 4, 1]
@@ -142,6 +144,24 @@ class Stamps(unittest.TestCase):
         calls += [restart(0), flow(), work(), deliver(1), deliver(0), flow(), work(), flow()]
         self.assertEqual(ask(calls + [enter(6, 1, 0, 1), enter(7, 1, 0), enter(7, 0, 1), hop(), hop()])[-5:],
                          [[0], [1], [1], [0], [5]])
+
+
+class DroppedBeforeItsTime(unittest.TestCase):
+    """No line of calls drops a version that a packet may still go by: the message is made here."""
+
+    def test_enter_answers_2_where_what_is_current_is_not_there(self):
+        world = world_after(ROLLED)
+        hand_over(world, drop_message(0, 1, 1))
+        self.assertEqual(answer_call(world, 11, [7, 0, 1]), [2])
+        self.assertEqual(answer_call(world, 18, []), NONE)
+        self.assertEqual(answer_call(world, 19, []), [0, 0, 0, 1, 0, 0, 1, 0, 0])
+
+    def test_hop_answers_2(self):
+        world = world_after(ON_ITS_WAY)
+        hand_over(world, drop_message(1, 2, 1))
+        self.assertEqual(answer_call(world, 12, [0]), [2])
+        self.assertEqual(answer_call(world, 18, []), NONE)
+        self.assertEqual(answer_call(world, 19, []), [0, 0, 0, 1, 0, 0, 1, 0, 0])
 
 
 class Routes(unittest.TestCase):
